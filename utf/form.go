@@ -36,9 +36,10 @@ var leads = [...]lead{
 
 // leadOf is what b begins; of the size 0, if it begins nothing.
 func leadOf(b byte) lead {
-	for _, x := range leads {
-		if b >= x.first && b <= x.last {
-			return x
+	// By places, as going through the values would copy the whole array for each byte.
+	for i := range leads {
+		if b >= leads[i].first && b <= leads[i].last {
+			return leads[i]
 		}
 	}
 	return lead{}
